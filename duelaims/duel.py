@@ -1,4 +1,4 @@
-"""A duel of two to four shots who shoot in turn: their aims, and the exact chances that these give.
+"""A duel of two to four shots who shoot in turn: their aims, the exact chances that these give, and better aims.
 
 A set of shots is a whole number: 1 if shot 0 is in it, 2 if shot 1 is, 4, 8 likewise, added.
 To aim at nobody is to aim at the number behind the last shot.
@@ -11,13 +11,17 @@ CALL_AIM = 1
 CALL_AIMS = 2
 CALL_ALL = 3
 CALL_SET = 4
+CALL_BEST = 5
+CALL_BETTER = 6
+CALL_IMPROVE = 7
 
 # By the number of a call that has no row: how many whole numbers stand behind it.
-WHOLE_NUMBERS = {1: 3, 2: 1, 3: 1, 4: 2}
+WHOLE_NUMBERS = {1: 3, 2: 1, 3: 1, 4: 2, 5: 2, 6: 0, 7: 1, 8: 0}
 
 FEWEST_SHOTS = 2
 MOST_SHOTS = 4
 MOST_BELOW = 60
+MOST_CHANGES = 30
 
 
 class Duel:
@@ -86,14 +90,17 @@ def mixed(parts):
     return total
 
 
-def first_hits(duel, known, group, first):
-    """For each who may be the first to hit in a round: how much that counts, and the weights behind it."""
+def first_hits(duel, known, group, first, own):
+    """For each who may be the first to hit in a round: how much that counts, and the weights behind it.
+
+    First aims at own, whatever that one's aim is, so that a change is weighed without being made.
+    """
     nobody = len(duel.hits)
     parts = []
     # A round has at most four shots and each takes one factor out, so this always divides evenly.
     missed = duel.below ** 4
     for shot in in_turn(group, first):
-        to = duel.aims[(group, shot)]
+        to = own if shot == first else duel.aims[(group, shot)]
         hit = 0 if to == nobody else duel.hits[shot]
         each = missed // duel.below
         if each * hit > 0:
@@ -103,11 +110,12 @@ def first_hits(duel, known, group, first):
     return parts
 
 
-def chances(duel, known, group, first):
-    """The weights with that set in and first at turn; known has those of all smaller sets."""
-    if len(members(group)) == 1:
-        return surely(duel, first)
-    parts = first_hits(duel, known, group, first)
+def chances(duel, known, group, first, own):
+    """The weights with that set, of two or more, in and first at turn, who aims at own.
+
+    Known has the weights of all smaller sets.
+    """
+    parts = first_hits(duel, known, group, first, own)
     if len(parts) == 0:
         return surely(duel, len(duel.hits))
     # A round without a hit leads back to where it began, so the rounds with one alone tell the chances.
@@ -118,8 +126,12 @@ def known_chances(duel, top):
     """The weights by (set, shot at turn) of each set up to top; a set's number is above those of its parts."""
     known = {}
     for group in range(1, top + 1):
-        for shot in members(group):
-            known[(group, shot)] = chances(duel, known, group, shot)
+        inside = members(group)
+        for shot in inside:
+            if len(inside) == 1:
+                known[(group, shot)] = surely(duel, shot)
+            else:
+                known[(group, shot)] = chances(duel, known, group, shot, duel.aims[(group, shot)])
     return known
 
 
@@ -132,16 +144,46 @@ def common_divisor(one, other):
     return one
 
 
+def lowest_terms(above, below):
+    """A chance as it is answered."""
+    divisor = common_divisor(above, below)
+    return [above // divisor, below // divisor]
+
+
 def told_chances(duel, group, first):
     """What all and set answer: 0, then each chance in lowest terms."""
     weights = known_chances(duel, group)[(group, first)]
-    below = sum(weights)
     told = [0]
     for weight in weights:
-        divisor = common_divisor(weight, below)
-        told.append(weight // divisor)
-        told.append(below // divisor)
+        told.extend(lowest_terms(weight, sum(weights)))
     return told
+
+
+def possible_aims(duel, group, shot):
+    """At whom a shot may aim with that set in: the others by their numbers, then nobody."""
+    return [other for other in members(group) if other != shot] + [len(duel.hits)]
+
+
+def does_better(shot, weights, before):
+    """Whether a shot is left with a greater chance by the weights than by those before."""
+    return weights[shot] * sum(before) > before[shot] * sum(weights)
+
+
+def better_aims(duel, known, group, shot):
+    """The aims, in order, that are better for a shot than the one that stands; known has that set's weights too."""
+    now = duel.aims[(group, shot)]
+    others = [to for to in possible_aims(duel, group, shot) if to != now]
+    return [to for to in others if does_better(shot, chances(duel, known, group, shot, to), known[(group, shot)])]
+
+
+def first_better(duel):
+    """The first better change, as a list of the set, the shot and the aim; empty if there is none."""
+    known = known_chances(duel, (1 << len(duel.hits)) - 1)
+    for group, shot in sorted(duel.aims):
+        better = better_aims(duel, known, group, shot)
+        if len(better) > 0:
+            return [group, shot, better[0]]
+    return []
 
 
 def is_duel(below, hits):
@@ -209,6 +251,48 @@ def answer_set(duel, group, first):
     return told_chances(duel, group, first)
 
 
+def answer_best(duel, group, shot):
+    refused = refusal(duel, group, shot)
+    if refused < 0:
+        return [refused]
+    known = known_chances(duel, group)
+    # Nothing is less for that shot than that it is surely for ever.
+    greatest = surely(duel, len(duel.hits))
+    best = []
+    for to in possible_aims(duel, group, shot):
+        weights = chances(duel, known, group, shot, to)
+        if does_better(shot, weights, greatest):
+            greatest = weights
+            best = []
+        if not does_better(shot, greatest, weights):
+            best.append(to)
+    return [len(best)] + best + lowest_terms(greatest[shot], sum(greatest))
+
+
+def answer_better(duel):
+    change = first_better(duel)
+    if len(change) == 0:
+        return [0]
+    return [1] + change
+
+
+def answer_improve(duel, most):
+    if most > MOST_CHANGES:
+        return [-1]
+    made = 0
+    change = first_better(duel)
+    while len(change) > 0 and made < most:
+        duel.aims[(change[0], change[1])] = change[2]
+        made = made + 1
+        change = first_better(duel)
+    return [made, 1 if len(change) > 0 else 0]
+
+
+def answer_air(duel):
+    nobody = len(duel.hits)
+    return [len([to for to in duel.aims.values() if to == nobody])]
+
+
 def answer_call(duel, call):
     """The answer to one call, which may change the duel."""
     if call[0] == CALL_DUEL:
@@ -219,7 +303,15 @@ def answer_call(duel, call):
         return answer_aims(duel, call[1])
     if call[0] == CALL_ALL:
         return answer_all(duel, call[1])
-    return answer_set(duel, call[1], call[2])
+    if call[0] == CALL_SET:
+        return answer_set(duel, call[1], call[2])
+    if call[0] == CALL_BEST:
+        return answer_best(duel, call[1], call[2])
+    if call[0] == CALL_BETTER:
+        return answer_better(duel)
+    if call[0] == CALL_IMPROVE:
+        return answer_improve(duel, call[1])
+    return answer_air(duel)
 
 
 def call_length(calls, start):

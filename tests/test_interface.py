@@ -10,24 +10,48 @@ import unittest
 import duelaims.duel
 from duelaims.duel import answers
 
-from asking import GREATEST, THREE, aim, aims, ask, chances_of_all, chances_of_set, duel, joined
+from asking import (
+    GREATEST, THREE, aim, aims, air, ask, best, better, chances_of_all, chances_of_set, duel, improve, joined,
+)
 
+# All nine kinds, taken and refused.
 SESSION = joined([
-    duel(*THREE), chances_of_all(0), aim(7, 0, 3), chances_of_all(0), aims(7), duel(0, 1, 1),
-    chances_of_set(6, 1), chances_of_set(6, 0), aims(8), chances_of_all(3),
+    duel(*THREE), chances_of_all(0), best(7, 0), better(), aim(7, 0, 3), chances_of_all(0), aims(7), better(), air(),
+    duel(0, 1, 1), chances_of_set(6, 1), chances_of_set(6, 0), aims(8), chances_of_all(3), best(4, 0), best(6, 0),
+    aim(6, 1, 3), air(), improve(31), improve(0), improve(30), aims(6), aim(7, 0, 0), air(), duel(5, 0, 5),
+    best(3, 0), better(), improve(1), air(),
 ])
 
 SESSION_ANSWERS = [
     1, 3,
     9, 0, 59, 189, 34, 63, 4, 27, 0, 1,
+    4, 1, 3, 25, 63,
+    4, 1, 7, 0, 3,
     1, 2,
     9, 0, 25, 63, 8, 21, 2, 9, 0, 1,
     4, 3, 3, 2, 1,
+    1, 0,
+    1, 1,
     1, -1,
     9, 0, 0, 1, 2, 3, 1, 3, 0, 1,
     1, -2,
     1, -1,
     1, -2,
+    1, -1,
+    1, -2,
+    1, 2,
+    1, 2,
+    1, -1,
+    2, 0, 1,
+    2, 1, 0,
+    3, 2, 2, 1,
+    1, -3,
+    1, 1,
+    1, 2,
+    5, 2, 1, 2, 0, 1,
+    1, 0,
+    2, 0, 0,
+    1, 0,
 ]
 
 
@@ -52,6 +76,10 @@ class Lists(unittest.TestCase):
         self.assertEqual(answers([1, 3, 0, 2]), [1, 1])
         self.assertEqual(answers([0, 5, 2, 4, 5]), [1, 2])
         self.assertEqual(answers([0, 5, 0]), [1, -1])
+        self.assertEqual(answers([5, 3, 0]), [4, 1, 1, 1, 1])
+        self.assertEqual(answers([6]), [1, 0])
+        self.assertEqual(answers([7, 30]), [2, 0, 0])
+        self.assertEqual(answers([8]), [1, 0])
 
     def test_several_calls_each_with_its_count(self):
         self.assertEqual(answers(SESSION), SESSION_ANSWERS)
@@ -66,6 +94,11 @@ class Lists(unittest.TestCase):
             calls += [duel(5, 1, 2, 3), aim(7, 0, 3), aims(7), chances_of_all(4)]
             expected += [[3], [2], [3, 3, 2, 1], [-2]]
         self.assertEqual(ask(*calls), expected)
+
+    def test_calls_of_no_numbers_one_behind_another(self):
+        self.assertEqual(answers([8, 6, 6, 8, 7, 0, 8, 5, 1, 0, 6, 2, 3]),
+                         [1, 0, 1, 0, 1, 0, 1, 0, 2, 0, 0, 1, 0, 1, -1, 1, 0, 3, 2, 1, 0])
+        self.assertEqual(answers([8] * 20 + [6] * 20), [1, 0] * 40)
 
     def test_forty_long_calls(self):
         call = duel(GREATEST, *[GREATEST] * 40)
@@ -82,14 +115,17 @@ class Lists(unittest.TestCase):
         self.assertEqual({type(number) for number in told}, {int})
 
     def test_gone_through_by_loops(self):
+        changing = joined([duel(4, 1, 2, 2), aim(7, 2, 0)] + [improve(30)] * 3)
         deepest = sys.getrecursionlimit()
         # Little more than what stands around this test: a call a step would not fit.
         sys.setrecursionlimit(len(inspect.stack(0)) + 25)
         try:
             told = answers(duel(60, *[1] * 40) * 39 + [2, 3])
+            changed = answers(changing)
         finally:
             sys.setrecursionlimit(deepest)
         self.assertEqual(told, [1, -1] * 39 + [3, 2, 1, 0])
+        self.assertEqual(changed, [1, 3, 1, 1] + [2, 30, 1] * 3)
 
 
 class NothingElse(unittest.TestCase):
@@ -111,7 +147,10 @@ class NothingElse(unittest.TestCase):
     def test_nothing_is_kept(self):
         answers(joined([duel(4, 1, 2, 3, 4), aim(3, 0, 4)]))
         answers(joined([aim(3, 0, 2), aim(3, 1, 2)]))
+        answers(joined([duel(*THREE), improve(30)]))
         self.assertEqual(ask(aims(3), chances_of_all(0), aims(15)), [[2, 1, 0], [0, 1, 1, 0, 1, 0, 1], [-1]])
+        self.assertEqual(ask(air(), better(), best(3, 0), duel(*THREE), air(), improve(0)),
+                         [[0], [0], [1, 1, 1, 1], [3], [0], [0, 1]])
 
     def test_a_changed_answer_changes_nothing(self):
         told = answers(SESSION)
